@@ -1,0 +1,1 @@
+"""Lowwater: sums of products that are never below nought, in exact fractions."""

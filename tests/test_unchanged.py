@@ -1,0 +1,69 @@
+"""Point 2: what was handed in is as it was, behind tellings and refusals."""
+
+import copy
+import unittest
+from fractions import Fraction
+
+import model
+from lowwater.errors import NoQuotient, TooGreat
+from lowwater.fractions import added, beside, divided, is_fraction, less, multiplied
+from lowwater.sums import degree, is_sum, plus, put_in, scaled, slope, times, worth
+
+
+class Unchanged(unittest.TestCase):
+    def assert_kept(self, deed, *handed):
+        before = copy.deepcopy(handed)
+        told = deed(*handed)
+        self.assertEqual(handed, before)
+        self.assertEqual(deed(*before), told)
+
+    def assert_kept_refusing(self, refusal, deed, *handed):
+        before = copy.deepcopy(handed)
+        with self.assertRaises(refusal):
+            deed(*handed)
+        self.assertEqual(handed, before)
+
+    def test_anything(self):
+        for thing in ([1, 2], [[1, [2]], (1, [2])], (1, [((1,), (1, 2))]), [1, []], (1, (([1], [1, 2]),)), [None, "a"]):
+            self.assert_kept(is_fraction, thing)
+            self.assert_kept(is_sum, thing)
+
+    def test_fractions(self):
+        for deed in (added, less, multiplied, divided, beside):
+            self.assert_kept(deed, (1, 2), (-3, 4))
+        self.assert_kept_refusing(NoQuotient, divided, (1, 2), (0, 1))
+
+    def test_sums(self):
+        one = model.made(2, {(0, 1): Fraction(1, 2), (1, 1): -3})
+        other = model.made(2, {(0, 0): 1, (0, 1): Fraction(-1, 2)})
+        self.assert_kept(degree, one)
+        self.assert_kept(plus, one, other)
+        self.assert_kept(times, one, other)
+        self.assert_kept(scaled, one, (0, 1))
+        self.assert_kept(slope, one, 1)
+        self.assert_kept(worth, one, ((1, 2), (-2, 3)))
+        high = model.letter_sum(1, 0, 9)
+        self.assert_kept_refusing(TooGreat, times, high, high)
+        full = model.first_terms(4, 500)
+        self.assert_kept_refusing(TooGreat, plus, full, model.letter_sum(4, 0, 16))
+
+    def test_put_in_and_its_list(self):
+        one = model.made(2, {(0, 1): Fraction(1, 2), (1, 1): -3})
+        self.assert_kept(put_in, one, [model.letter_sum(3, 0, 2), model.letter_sum(3, 1, 3)])
+        self.assert_kept_refusing(TooGreat, put_in, one, [model.letter_sum(3, 0, 9), model.letter_sum(3, 1, 9)])
+        product = model.made(2, {(1, 1): 1})
+        many = [model.first_terms(4, 126, 5), model.first_terms(4, 400, 8)]
+        self.assert_kept_refusing(TooGreat, put_in, product, many)
+
+    def test_the_list_is_not_kept(self):
+        one = model.made(1, {(0,): 1, (2,): 3})
+        others = [model.letter_sum(1, 0, 2)]
+        told = put_in(one, others)
+        others[0] = (1, ())
+        others.append((1, ()))
+        self.assertEqual(told, model.made(1, {(0,): 1, (4,): 3}))
+        self.assertEqual(put_in(one, [model.letter_sum(1, 0, 2)]), told)
+
+
+if __name__ == "__main__":
+    unittest.main()
