@@ -2,16 +2,45 @@
 
 from lowwater.errors import NoQuotient
 
+# From here on several steps of a division chain are taken at once, by so many leading bits.
+LONG_BITS = 8000
+LEADING_BITS = 120
+
 
 def is_whole(thing):
     """Whether the thing is an int and no truth."""
     return isinstance(thing, int) and not isinstance(thing, bool)
 
 
+def chain_steps(high, low):
+    """Steps of a division chain that two numbers' leading bits settle: (p, q, s, t) for p, q times both and s, t."""
+    p, q, s, t = 1, 0, 0, 1
+    # The bits cut off can't change a quotient that comes out alike at both ends of what they allow.
+    while low + s != 0 and low + t != 0 and (high + p) // (low + s) == (high + q) // (low + t):
+        times = (high + p) // (low + s)
+        p, q, s, t = s, t, p - times * s, q - times * t
+        high, low = low, high - times * low
+    return (p, q, s, t)
+
+
+def chain_on(one, other):
+    """A pair further down the division chain of two numbers, the other one from 1 on."""
+    if one < other:
+        return (other, one % other)
+    cut = one.bit_length() - LEADING_BITS
+    p, q, s, t = chain_steps(one >> cut, other >> cut)
+    if q == 0:
+        return (other, one % other)
+    return (p * one + q * other, s * one + t * other)
+
+
 def greatest_divisor(one, other):
     """The greatest number that divides both; other is from 1 on, so it is too."""
     while other != 0:
-        one, other = other, one % other
+        if other.bit_length() > LONG_BITS:
+            one, other = chain_on(one, other)
+        else:
+            one, other = other, one % other
     return one
 
 

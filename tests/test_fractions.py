@@ -90,6 +90,28 @@ class Reckoning(unittest.TestCase):
         self.assertEqual(divided((1, 2), (-3, 4)), (-2, 3))
         self.assertEqual(divided((-5, 7), (-5, 7)), (1, 1))
 
+    def test_very_long_ones(self):
+        # Thousands of figures, with a shared divisor that is short, long, or nearly all there is.
+        rolls = model.dice(5)
+        for figures in (2000, 2500, 6000):
+            for shared in (1, 7, 10**40 + 1, 10**2000 + 9, 10**(figures - 3) + 1):
+                one = rolls.randint(-10**figures, 10**figures) * shared
+                other = rolls.randint(1, 10**figures) * shared
+                for top, bottom in ((one, other), (other, abs(one)), (-other, abs(one)), (one, shared), (shared, other)):
+                    self.assert_told(divided((top, 1), (bottom, 1)), Fraction(top, bottom))
+                self.assertIs(is_fraction((one, other)), False if shared > 1 else math.gcd(one, other) == 1)
+                first, second = Fraction(one, other + shared), Fraction(other, abs(one) + shared)
+                self.assert_told(added(model.pair(first), model.pair(second)), first + second)
+                self.assert_told(multiplied(model.pair(first), model.pair(second)), first * second)
+
+    def test_very_long_ones_of_one_chain(self):
+        # Neighbours of Fibonacci's row have the longest chain of quotients, all of them 1.
+        one, other = 1, 1
+        for turn in range(20000):
+            one, other = one + other, one
+        for top, bottom in ((one, other), (one * one, other * one), (one * 5 + other, one), (other, one)):
+            self.assert_told(divided((top, 1), (bottom, 1)), Fraction(top, bottom))
+
     def test_no_quotient(self):
         for one in ((0, 1), (1, 1), (-1, 2), (LONG, 2)):
             with self.assertRaises(NoQuotient):

@@ -30,6 +30,21 @@ NO_NODES = (
     ast.AsyncFunctionDef, ast.Await, ast.Import,
 )
 
+# For each stage its files, and what the document's interface names in them: a later stage draws nothing else.
+STAGES = (
+    {"errors": "LowwaterError NoRow NoQuotient TooGreat NoText NotSecond NotStraight TooMany NoLine"},
+    {"fractions": "is_fraction added less multiplied divided beside",
+     "sums": "is_sum degree plus times scaled slope put_in worth", "sumtexts": "shown read"},
+    {"squares": "are_squares squares", "lowest": "lowest is_lowest"},
+    {"rims": "kept over is_over", "reach": "reach is_reach"},
+    {"divisors": "quotient common", "parts": "parts split"},
+    {"pieces": "numbers are_pieces", "stretches": "never nearly is_nearly"},
+    {"boxes": "box_numbers bears_tree", "layers": "never_in nearly_in is_nearly_in"},
+    {"rows": "row_sums", "turned": "rows_of_squares rows_of_weights rows_of_piece"},
+    {"desk": "Desk"},
+)
+STAGE_OF = {name: number for number, stage in enumerate(STAGES) for name in stage}
+
 
 def trees():
     for path in FILES:
@@ -78,6 +93,27 @@ class Language(unittest.TestCase):
                 if isinstance(node, ast.ImportFrom):
                     self.assertEqual((node.level, node.module.split(".")[0]), (0, "lowwater"), name)
                     self.assertNotIn("*", [alias.name for alias in node.names], name)
+
+    def test_each_stage_draws_from_lower_ones_what_the_interface_names(self):
+        for name, tree in trees():
+            own = STAGE_OF.get(name[:-3])
+            for node in ast.walk(tree):
+                if isinstance(node, ast.ImportFrom):
+                    drawn = node.module.split(".")[1]
+                    self.assertIsNotNone(own, name)
+                    self.assertLessEqual(STAGE_OF[drawn], own, name)
+                    if STAGE_OF[drawn] < own:
+                        named = STAGES[STAGE_OF[drawn]][drawn].split()
+                        self.assertEqual([alias.name for alias in node.names if alias.name not in named], [], name)
+
+    def test_everything_drawn_is_used_and_hidden_by_nothing(self):
+        for name, tree in trees():
+            drawn = {alias.name for node in ast.walk(tree) if isinstance(node, ast.ImportFrom) for alias in node.names}
+            names = [node for node in ast.walk(tree) if isinstance(node, ast.Name)]
+            self.assertEqual(drawn - {node.id for node in names if isinstance(node.ctx, ast.Load)}, set(), name)
+            given = {node.id for node in names if isinstance(node.ctx, ast.Store)}
+            given |= {node.arg for node in ast.walk(tree) if isinstance(node, ast.arg)}
+            self.assertEqual(drawn & given, set(), name)
 
     def test_names(self):
         for name, tree in trees():

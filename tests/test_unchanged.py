@@ -5,12 +5,24 @@ import unittest
 from fractions import Fraction
 
 import model
-from lowwater.errors import NoQuotient, TooGreat
+from lowwater.errors import NoQuotient, NoText, NotSecond, TooGreat
 from lowwater.fractions import added, beside, divided, is_fraction, less, multiplied
+from lowwater.lowest import is_lowest, lowest
+from lowwater.squares import are_squares, squares
 from lowwater.sums import degree, is_sum, plus, put_in, scaled, slope, times, worth
+from lowwater.sumtexts import read, shown
 
 
-class Unchanged(unittest.TestCase):
+def lists_in(told):
+    """All lists that stand in what was told."""
+    found = [told] if isinstance(told, list) else []
+    if isinstance(told, (list, tuple)):
+        for part in told:
+            found += lists_in(part)
+    return found
+
+
+class Case(unittest.TestCase):
     def assert_kept(self, deed, *handed):
         before = copy.deepcopy(handed)
         told = deed(*handed)
@@ -23,6 +35,24 @@ class Unchanged(unittest.TestCase):
             deed(*handed)
         self.assertEqual(handed, before)
 
+    def assert_own(self, deed, *handed):
+        """What is told is the asker's own: no list of it is one with another, or with what was handed in."""
+        told = deed(*handed)
+        wanted = copy.deepcopy(told)
+        again = deed(*handed)
+        lists = lists_in(told) + lists_in(again) + lists_in(handed)
+        self.assertEqual(len({id(one) for one in lists}), len(lists))
+        for one in lists_in(told):
+            one.append("more")
+            one.reverse()
+        self.assertEqual(again, wanted)
+        self.assertEqual(deed(*handed), wanted)
+        for one in lists_in(again):
+            one.clear()
+        self.assertEqual(deed(*handed), wanted)
+
+
+class Unchanged(Case):
     def test_anything(self):
         for thing in ([1, 2], [[1, [2]], (1, [2])], (1, [((1,), (1, 2))]), [1, []], (1, (([1], [1, 2]),)), [None, "a"]):
             self.assert_kept(is_fraction, thing)
@@ -63,6 +93,35 @@ class Unchanged(unittest.TestCase):
         others.append((1, ()))
         self.assertEqual(told, model.made(1, {(0,): 1, (4,): 3}))
         self.assertEqual(put_in(one, [model.letter_sum(1, 0, 2)]), told)
+
+    def test_texts(self):
+        self.assert_kept(shown, model.made(2, {(0, 1): Fraction(1, 2), (1, 1): -3}))
+        self.assert_kept(read, "1 a + 1/2 b", 2)
+        self.assert_kept_refusing(NoText, read, "1 b + 1 a", 2)
+
+
+class Seconds(Case):
+    def setUp(self):
+        self.so = model.made(2, {(2, 0): Fraction(1), (1, 1): Fraction(1, 2), (0, 2): Fraction(3), (0, 0): Fraction(1)})
+        self.falls = model.made(2, {(1, 1): Fraction(1), (0, 0): Fraction(1)})
+
+    def test_handed_in(self):
+        high = model.letter_sum(2, 0, 3)
+        for deed in (squares, lowest):
+            self.assert_kept(deed, self.so)
+            self.assert_kept(deed, self.falls)
+            self.assert_kept_refusing(NotSecond, deed, high)
+        self.assert_kept(are_squares, self.so, squares(self.so)[1])
+        self.assert_kept(are_squares, self.falls, [((-1, 1), self.falls), ((0, 1), self.so)])
+        self.assert_kept(are_squares, self.so, [])
+        for told in (lowest(self.so), lowest(self.falls), ("least", (0, 1), ((0, 1), (0, 1)), [((-1, 1), self.so)])):
+            self.assert_kept(is_lowest, self.so, told)
+            self.assert_kept(is_lowest, self.falls, told)
+
+    def test_told(self):
+        for one in (self.so, self.falls, (2, ()), model.constant(2, 1), model.letter_sum(2, 0, 2)):
+            self.assert_own(squares, one)
+            self.assert_own(lowest, one)
 
 
 if __name__ == "__main__":
