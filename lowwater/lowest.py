@@ -1,13 +1,13 @@
 """The least worth of a sum of the second degree, or a way along which it falls below every number."""
 
 from lowwater.fractions import less
-from lowwater.squares import NOUGHT, along, are_squares, completed, downhill, filled, number_at, refuse_above_second
+from lowwater.squares import NOUGHT, along, are_squares, completed, downhill, filled, lone_sum, number_at, refuse_higher
 from lowwater.sums import plus, worth
 
 
 def lowest(one):
     """("least", number, spot, squares) or ("falls", spot, way); refused with NotSecond."""
-    refuse_above_second(one)
+    refuse_higher(one)
     noughts = (NOUGHT,) * one[0]
     taken, rest = completed(one)
     spot = filled(taken, noughts)
@@ -21,10 +21,7 @@ def lowest(one):
 
 def lowered(one, number):
     """A sum less a number."""
-    down = less(NOUGHT, number)
-    if down == NOUGHT:
-        return one
-    return plus(one, (one[0], (((0,) * one[0], down),)))
+    return plus(one, lone_sum(one[0], less(NOUGHT, number)))
 
 
 def is_least(one, number, spot, some):
@@ -36,8 +33,7 @@ def falls(one, spot, way):
     """Whether the sum falls below every number from the spot along the way."""
     if len(spot) != one[0] or len(way) != one[0]:
         return False
-    if all([step == NOUGHT for step in way]):
-        return False
+    # Along a way of noughts the worths are a number alone, so it falls by neither power.
     course = along(one, spot, way)
     first = number_at(course, (1,))
     second = number_at(course, (2,))

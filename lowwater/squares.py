@@ -59,9 +59,8 @@ def come_to(one, shares):
 
 def are_squares(one, some):
     """Whether the squares, a list of (weight, sum), bear out the sum."""
-    for weight, root in some:
-        if weight[0] < 0 or root[0] != one[0]:
-            return False
+    if any([weight[0] < 0 for weight, root in some]):
+        return False
     return come_to(one, [weighted_square(weight, root) for weight, root in some if weight != NOUGHT])
 
 
@@ -70,9 +69,14 @@ def number_at(one, powers):
     return dict(one[1]).get(powers, NOUGHT)
 
 
-def unit(many, letter, power):
-    """The powers in which one letter alone stands."""
-    return tuple([power if at == letter else 0 for at in range(many)])
+def lone_sum(many, number):
+    """The sum of so many letters that is a number alone."""
+    return scaled((many, (((0,) * many, ONE),)), number)
+
+
+def square_powers(many, letter):
+    """The powers of a letter's square."""
+    return tuple([2 if at == letter else 0 for at in range(many)])
 
 
 def without(one, letter):
@@ -89,7 +93,7 @@ def completed(one):
     taken = []
     rest = one
     for letter in range(one[0]):
-        weight = number_at(rest, unit(one[0], letter, 2))
+        weight = number_at(rest, square_powers(one[0], letter))
         if weight[0] > 0:
             tilt = slope(rest, letter)
             taken.append((letter, weight, scaled(tilt, divided((1, 2), weight))))
@@ -110,8 +114,7 @@ def filled(taken, spot):
 def along(one, spot, way):
     """The worths at the spot and t times the way added, as a sum of t."""
     t = (1, (((1,), ONE),))
-    steps = [plus(scaled((1, (((0,), ONE),)), start), scaled(t, step)) for start, step in zip(spot, way)]
-    return put_in(one, steps)
+    return put_in(one, [plus(lone_sum(1, start), scaled(t, step)) for start, step in zip(spot, way)])
 
 
 def sign(number):
@@ -119,19 +122,13 @@ def sign(number):
     return (-1, 1) if number[0] < 0 else ONE
 
 
-def steepness(term):
-    """What goes first when a way down is sought: a square, then a product, then a first power."""
-    powers, number = term
-    return (-sum(powers), -max(powers))
-
-
 def downhill(rest):
     """A way along which a completed sum's rest falls from the spot of noughts, or None where it is a number alone."""
     many, terms = rest
     if degree(rest) == 0:
         return None
-    # A square, below 0 as all are here, pulls down by itself; a product does so only where there is no square.
-    powers, number = min(terms, key=steepness)
+    # No square is above 0 here, so each square pulls down, and so does each product, whatever squares stand beside it.
+    powers, number = max(terms, key=lambda term: sum(term[0]))
     standing = [letter for letter, power in enumerate(powers) if power > 0]
     way = [ONE if power > 0 else NOUGHT for power in powers]
     if max(powers) == 1:
@@ -150,7 +147,7 @@ def far_enough(course):
     return multiplied(length, less(NOUGHT, sign(first)))
 
 
-def refuse_above_second(one):
+def refuse_higher(one):
     """Refused with NotSecond where the sum's degree is above 2."""
     if degree(one) > 2:
         raise NotSecond(f"a sum of degree {degree(one)}")
@@ -158,7 +155,7 @@ def refuse_above_second(one):
 
 def squares(one):
     """("so", squares) by which the sum is borne out, or ("below", spot); refused with NotSecond."""
-    refuse_above_second(one)
+    refuse_higher(one)
     many = one[0]
     noughts = (NOUGHT,) * many
     taken, rest = completed(one)
@@ -171,5 +168,5 @@ def squares(one):
         return ("below", filled(taken, noughts))
     some = [(weight, root) for letter, weight, root in taken]
     if number[0] > 0:
-        some.append((number, (many, ((unit(many, 0, 0), ONE),))))
+        some.append((number, lone_sum(many, ONE)))
     return ("so", some)

@@ -199,6 +199,15 @@ class IsLowest(unittest.TestCase):
         self.assert_told(saddle, ("falls", ((9, 1), (0, 1)), ((1, 1), (1, 1))), False)
         self.assert_told(saddle, ("falls", ((0, 1), (0, 1)), ((1, 1), (1, 1))), False)
 
+    def test_other_lengths_and_words(self):
+        down = model.straight(2, -1, 0, 0)
+        for spot in ((), ((0, 1),), ((0, 1),) * 3):
+            self.assertIs(is_lowest((2, ()), ("least", (0, 1), spot, [])), False)
+            self.assertIs(is_lowest(down, ("falls", spot, ((1, 1), (0, 1)))), False)
+        for way in ((), ((1, 1),), ((1, 1), (0, 1), (0, 1))):
+            self.assertIs(is_lowest(down, ("falls", ((0, 1),) * 2, way)), False)
+        self.assertIs(is_lowest((2, ()), ("so", [])), False)
+
     def test_by_name(self):
         self.assertIs(is_lowest(told=("least", (0, 1), ((0, 1),), []), one=(1, ())), True)
         self.assertIs(is_lowest(told=("falls", ((0, 1),), ((1, 1),)), one=(1, ())), False)
