@@ -5,9 +5,13 @@ import unittest
 from fractions import Fraction
 
 import model
-from lowwater.errors import NoQuotient, NoText, NotSecond, TooGreat
+from lowwater.divisors import common, quotient
+from lowwater.errors import NoQuotient, NotSecond, NotStraight, NoText, TooGreat
 from lowwater.fractions import added, beside, divided, is_fraction, less, multiplied
 from lowwater.lowest import is_lowest, lowest
+from lowwater.parts import parts, split
+from lowwater.reach import is_reach, reach
+from lowwater.rims import is_over, kept, over
 from lowwater.squares import are_squares, squares
 from lowwater.sums import degree, is_sum, plus, put_in, scaled, slope, times, worth
 from lowwater.sumtexts import read, shown
@@ -122,6 +126,67 @@ class Seconds(Case):
         for one in (self.so, self.falls, (2, ()), model.constant(2, 1), model.letter_sum(2, 0, 2)):
             self.assert_own(squares, one)
             self.assert_own(lowest, one)
+
+
+class Rims(Case):
+    def setUp(self):
+        self.corner = [model.straight(2, 1, 0, 0), model.straight(2, 0, 1, Fraction(1, 2))]
+        self.apart = [model.straight(2, 1, 1, -2), model.straight(2, -1, -1, 1), model.straight(2, 0, 3, 1)]
+        self.sums = [model.straight(2, 1, 2, 3), model.straight(2, 1, 2, 0), model.straight(2, 1, -2, 3), (2, ())]
+        self.bent = model.letter_sum(2, 1, 2)
+
+    def test_handed_in(self):
+        for rims in (self.corner, self.apart):
+            self.assert_kept(kept, rims)
+            self.assert_kept_refusing(NotStraight, kept, rims + [self.bent])
+            for one in self.sums:
+                for deed in (over, reach):
+                    self.assert_kept(deed, one, rims)
+                    self.assert_kept_refusing(NotStraight, deed, one, [self.bent] + rims)
+                    self.assert_kept_refusing(NotStraight, deed, self.bent, rims)
+
+    def test_looked_at(self):
+        for rims in (self.corner, self.apart):
+            for one in self.sums:
+                for told in (kept(rims), over(one, rims), reach(one, rims), ("none", []), ("so", (1, 1), [(-1, 1), (1, 1)])):
+                    self.assert_kept(is_over, None, rims, told)
+                    self.assert_kept(is_over, one, rims, told)
+                    self.assert_kept(is_reach, one, rims, told)
+
+    def test_told(self):
+        for rims in (self.corner, self.apart):
+            self.assert_own(kept, rims)
+            for one in self.sums:
+                self.assert_own(over, one, rims)
+                self.assert_own(reach, one, rims)
+
+    def test_the_rims_are_not_kept(self):
+        rims = list(self.corner)
+        told = reach(self.sums[0], rims)
+        rims[0] = (2, ())
+        rims.append((2, ()))
+        self.assertEqual(reach(self.sums[0], self.corner), told)
+
+
+class OneLetter(Case):
+    def setUp(self):
+        self.one = model.made(1, {(0,): Fraction(1, 2), (1,): Fraction(1), (2,): Fraction(1, 2)})
+        self.other = model.made(1, {(0,): Fraction(-3), (1,): Fraction(-3)})
+
+    def test_handed_in(self):
+        for deed in (quotient, common):
+            self.assert_kept(deed, self.one, self.other)
+            self.assert_kept(deed, self.other, self.one)
+        self.assert_kept_refusing(NoQuotient, quotient, self.one, (1, ()))
+        self.assert_kept_refusing(NoQuotient, common, (1, ()), (1, ()))
+        for deed in (parts, split):
+            self.assert_kept(deed, self.one)
+            self.assert_kept_refusing(NoQuotient, deed, (1, ()))
+
+    def test_told(self):
+        for one in (self.one, self.other, model.constant(1, 2), model.letter_sum(1, 0, 3)):
+            self.assert_own(parts, one)
+            self.assert_own(split, one)
 
 
 if __name__ == "__main__":
