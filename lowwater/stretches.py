@@ -3,7 +3,7 @@
 from lowwater.fractions import added, beside, divided, less, multiplied
 from lowwater.parts import split
 from lowwater.pieces import NOUGHT, ONE, are_pieces, moved, numbers, raw_numbers
-from lowwater.sums import plus, worth
+from lowwater.sums import plus, scaled, worth
 
 SUM_ONE = (1, (((0,), ONE),))
 HALF = (1, 2)
@@ -237,9 +237,7 @@ def narrowed(row, gap):
 
 def lowered(one, number):
     """A sum of one letter less a number."""
-    if number == NOUGHT:
-        return one
-    return plus(one, (1, (((0,), less(NOUGHT, number)),)))
+    return plus(one, scaled(SUM_ONE, less(NOUGHT, number)))
 
 
 def nearly(one, low, high, gap):

@@ -123,6 +123,25 @@ class BearsTree(unittest.TestCase):
                     self.assert_told(one, box, (cut, (other, "all", "all"), (other, "all", "all")), letter in (cut, other))
                     self.assert_told(one, box, (cut, (other, "all", "all"), "all"), cut == letter)
 
+    def test_each_eighth_has_its_tree(self):
+        # A sum that is 0 at an odd eighth alone is borne out just where it is cut there.
+        trees = {1: (0, (0, (0, "all", "all"), "all"), "all"), 3: (0, (0, "all", (0, "all", "all")), "all"),
+                 5: (0, "all", (0, (0, "all", "all"), "all")), 7: (0, "all", (0, "all", (0, "all", "all")))}
+        for eighth in trees:
+            place = Fraction(eighth, 8)
+            square = model.square_of(model.straight(1, 1, -place))
+            wide = model.made(2, {powers + (0,): number for powers, number in model.table_of(square).items()})
+            late = model.made(2, {(0,) + powers: number for powers, number in model.table_of(square).items()})
+            for other, tree in trees.items():
+                self.assert_told(square, [(Fraction(0), Fraction(1))], tree, other == eighth)
+                self.assert_told(wide, [(Fraction(0), Fraction(1)), (Fraction(-1), Fraction(3))], tree, other == eighth)
+                self.assert_told(late, [(Fraction(0), Fraction(1)), (Fraction(-1), Fraction(3))], tree, False)
+
+    def test_a_letter_that_the_box_does_not_have(self):
+        line = [((0, 1), (1, 1))]
+        for letter in (1, 2, -1):
+            self.assertIs(bears_tree(model.constant(1, 1), line, (letter, "all", "all")), False)
+
     def test_any_trees(self):
         rolls = model.dice(205)
         counts = {True: 0, False: 0}

@@ -127,6 +127,8 @@ class IsNearly(unittest.TestCase):
         self.assert_told(False, valley, *ends, (1, 1), (right[0], right[1], right[2][::-1]))
         self.assert_told(False, valley, *ends, (1, 1), (right[0], right[1], right[2][:1]))
         self.assert_told(False, sum_of(0, 0, 2), *ends, (1, 1), right)
+        for spot in ((), ((0, 1), (0, 1))):
+            self.assert_told(False, valley, *ends, (1, 1), (right[0], spot, right[2]))
 
     def test_told_ones_a_little_otherwise(self):
         rolls = model.dice(192)

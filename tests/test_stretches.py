@@ -144,7 +144,7 @@ class Never(unittest.TestCase):
     def test_the_root_is_nought_where_the_rest_is_below(self):
         for times in (2, 4):
             dip = product(sum_of(-1), root_at(0, times))
-            for stretch in ((0, 1), (-1, 0), (0, None), (None, 0), (None, None), (-1, 1)):
+            for stretch in ((0, 1), (-1, 0), (0, None), (None, 0), (None, None), (-1, 1), (-TINY, 0), (0, TINY)):
                 self.assert_right(dip, *stretch, False)
                 self.assert_right(product(dip, root_at(1, 2), root_at(-1, 2)), *stretch, False)
             # Below 0 in a small place alone, and the root is 0 in its midst and at its end.
