@@ -5,7 +5,7 @@ from lowwater.parts import split
 from lowwater.pieces import NOUGHT, ONE, are_pieces, moved, numbers, raw_numbers
 from lowwater.sums import plus, scaled, worth
 
-SUM_ONE = (1, (((0,), ONE),))
+SUM_ONE = (1, (((0,), (1, 1)),))
 HALF = (1, 2)
 
 
@@ -38,11 +38,11 @@ def halves_of(cells):
 
 
 def cut_places(layers):
-    """The places from 0 to 1, rising, at which the cells left in each layer are cut."""
+    """The places from 0 to 1, rising, at which the cells of these places in each layer are cut."""
     finest = len(layers)
     places = []
     for depth, left in enumerate(layers, start=1):
-        places += [((2 * place + 1) << (finest - depth), (2 * place + 1, 1 << depth)) for place, row in left]
+        places += [((2 * place + 1) << (finest - depth), (2 * place + 1, 1 << depth)) for place in left]
     return [place for rank, place in sorted(places)]
 
 
@@ -63,7 +63,7 @@ def searched(row):
         cells = [cell for cell in cells if min(cell[1]) < 0]
         if cells == []:
             return (None, cut_places(layers))
-        layers.append(cells)
+        layers.append([place for place, row in cells])
         cells = halves_of(cells)
 
 
@@ -230,7 +230,7 @@ def narrowed(row, gap):
         cells = [cell for cell in cells if min(cell[1]) < best - gap]
         if cells == []:
             return (best, spot, layers)
-        layers.append(cells)
+        layers.append([place for place, row in cells])
         cells = halves_of(cells)
         best, spot, gap = best << most, 2 * spot, gap << most
 

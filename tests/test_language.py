@@ -126,6 +126,21 @@ class Language(unittest.TestCase):
             self.assertEqual(bound & OWN_NAMES, set(), name)
             self.assertEqual([word for word in bound if word.startswith("_") and word != "__init__"], [], name)
 
+    def test_what_stands_at_the_top(self):
+        plain = (ast.Constant, ast.Tuple, ast.List, ast.Dict, ast.BinOp, ast.UnaryOp, ast.operator, ast.unaryop, ast.expr_context)
+        for name, tree in trees():
+            above = set()
+            for node in tree.body:
+                where = f"{name}:{node.lineno}"
+                if isinstance(node, ast.FunctionDef):
+                    above.add(node.name)
+                elif isinstance(node, ast.Assign):
+                    for part in ast.walk(node.value):
+                        self.assertTrue(isinstance(part, plain) or isinstance(part, ast.Name) and part.id in above, where)
+                else:
+                    docstring = isinstance(node, ast.Expr) and isinstance(node.value, ast.Constant)
+                    self.assertTrue(docstring or isinstance(node, (ast.ImportFrom, ast.ClassDef)), where)
+
     def test_methods(self):
         own = {node.name for name, tree in trees() for group in ast.walk(tree) if isinstance(group, ast.ClassDef)
                for node in group.body if isinstance(node, ast.FunctionDef)}
